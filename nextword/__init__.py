@@ -1,0 +1,1 @@
+"""Nextword: lines of words read by rows, one word ahead."""
