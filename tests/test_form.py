@@ -137,15 +137,65 @@ class Form(unittest.TestCase):
     def test_names(self):
         for where, node in self.nodes(ast.Name, ast.arg, ast.FunctionDef, ast.ClassDef, ast.Attribute):
             name = next(getattr(node, key) for key in ("id", "arg", "name", "attr") if hasattr(node, key))
+            if isinstance(node, ast.FunctionDef) and name == "__init__":
+                continue
             self.assertFalse(name.startswith("_"), where)
             if isinstance(node, ast.Name) and isinstance(node.ctx, ast.Load):
                 self.assertTrue(name in OWN_NAMES or not hasattr(builtins, name), where)
             elif not isinstance(node, ast.Attribute):
                 self.assertFalse(hasattr(builtins, name), where)
 
-    def test_methods_of_python_values(self):
+    def test_methods_and_values(self):
+        own_methods = set()
+        own_values = set()
+        for where, node in self.nodes(ast.ClassDef):
+            bodies = [inner for inner in node.body if not isinstance(inner, ast.Pass)]
+            names = [inner.name for inner in bodies if isinstance(inner, ast.FunctionDef)]
+            self.assertEqual((len(names), len(set(names))), (len(bodies), len(bodies)), where)
+            own_methods.update(names)
         for where, node in self.nodes(ast.Attribute):
-            self.assertIn(node.attr, METHODS, where)
+            if isinstance(node.ctx, ast.Store):
+                self.assertEqual(getattr(node.value, "id", None), "self", where)
+                own_values.add(node.attr)
+        self.assertFalse(own_methods & own_values)
+        for kind in (str, int, list, tuple, dict, set, bytes, Exception):
+            self.assertFalse((own_methods - {"__init__"} | own_values) & set(dir(kind)))
+        for where, node in self.nodes(ast.Attribute):
+            self.assertIn(node.attr, METHODS | own_methods | own_values, where)
+
+    def test_methods_are_called_where_they_stand(self):
+        own = {inner.name for where, node in self.nodes(ast.ClassDef) for inner in node.body if hasattr(inner, "name")}
+        called_ones = {id(node.func) for where, node in self.nodes(ast.Call)}
+        for where, node in self.nodes(ast.Attribute):
+            if node.attr in METHODS | own:
+                self.assertIn(id(node), called_ones, where)
+
+    def test_texts_with_names(self):
+        for where, node in self.nodes(ast.FormattedValue):
+            self.assertIsInstance(node.value, ast.Name, where)
+            self.assertIsNone(node.format_spec, where)
+        for where, node in self.nodes(ast.Constant):
+            if isinstance(node.value, str):
+                self.assertNotIn("%", node.value, where)
+
+    def test_what_a_loop_walks_is_not_changed(self):
+        changes = {"append", "clear", "extend", "insert", "pop", "remove", "reverse", "setdefault", "update"}
+        for where, loop in self.nodes(ast.For):
+            walked = {ast.dump(node) for node in ast.walk(loop.iter) if isinstance(node, (ast.Name, ast.Attribute))}
+            for node in ast.walk(loop):
+                if called(node) in changes and isinstance(node.func, ast.Attribute):
+                    self.assertNotIn(ast.dump(node.func.value), walked, where)
+
+    def test_no_function_calls_itself(self):
+        """By name and in however many steps: no answer may rest on how deep calls can go."""
+        calls = {}
+        for where, node in self.nodes(ast.FunctionDef):
+            calls.setdefault(node.name, set()).update(called(inner) for inner in ast.walk(node))
+        while calls:
+            free = [name for name in calls if not calls[name] & set(calls)]
+            self.assertTrue(free, f"these call one another: {sorted(calls)}")
+            for name in free:
+                del calls[name]
 
     def test_walked_at_once(self):
         for where, parent, child in self.pairs():

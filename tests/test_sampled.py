@@ -3,11 +3,15 @@
 import random
 import unittest
 
-from nextword.errors import NoEnd, Unused
+from nextword.errors import Clash, NoEnd, Unused, WordError
+from nextword.grammar import behinds, empties, firsts
 from nextword.places import words_behind, words_to_use_rows
+from nextword.reading import read
 from nextword.rows import check_rows, is_tree_of_line, tree_words
 from nextword.starts import empty_sorts, words_to_begin
-from tests.helper import cheapest_rows, costs_by_chance, parts_of, tree_by_chance
+from nextword.table import table_of
+from tests.helper import (answer_by_trees, ask_unchanged, beginnings_up_to, cheapest_rows, costs_by_chance, parts_of,
+                          shows_use, tree_by_chance, trees_up_to)
 
 
 def rows_by_chance(chance):
@@ -18,6 +22,22 @@ def rows_by_chance(chance):
         row = (chance.choice(sorts), [chance.choice(signs) for _ in range(chance.choice((0, 1, 1, 2, 2, 3)))])
         if row not in rows:
             rows.append(row)
+    return rows
+
+
+def rows_told_apart(chance):
+    """Rows of which those of one sort mostly begin with words of their own, so that there is a table now and then."""
+    sorts = ["S", "A", "b", "C", "D"][:chance.randint(2, 5)]
+    words = ["a", "B", "c", "d", "E"][:chance.randint(2, 5)]
+    rows = []
+    for at, sort in enumerate(sorts):
+        begins = chance.sample(words, len(words)) + sorts[at + 1:] * 2
+        for _ in range(chance.choice((1, 1, 2, 2, 3))):
+            right = [begins.pop(chance.randrange(len(begins)))] if begins and chance.random() < 0.8 else []
+            if right:
+                right += [chance.choice(sorts + words) for _ in range(chance.choice((0, 0, 1, 2, 2, 3)))]
+            if (sort, right) not in rows:
+                rows.append((sort, right))
     return rows
 
 
@@ -111,6 +131,77 @@ class Sampled(unittest.TestCase):
             if count % 50 == 49 and shown.all() == answer:
                 return
         self.assertEqual(shown.all(), answer, rows)
+
+
+class SampledTables(unittest.TestCase):
+    """What is told by the interface, for rows made by chance; test_told_is_what_trees_show tells where rows are used."""
+
+    def test_tables_clashes_and_lines(self):
+        seen = {"table": 0, "clash": 0}
+        for make, seeds in ((rows_by_chance, 1500), (rows_told_apart, 4000)):
+            for seed in range(seeds):
+                rows = make(random.Random(seed))
+                try:
+                    answer = ask_unchanged(self, table_of, rows)
+                except WordError as error:
+                    self.refused_alike(rows, error.__class__)
+                    continue
+                seen[answer[0]] += 1
+                self.hold_lists(rows)
+                self.hold_table(rows, answer)
+                if answer[0] == "table":
+                    self.hold_lines(rows, random.Random(seed))
+                else:
+                    for line in ([], ["a"], ["a", "B"]):
+                        with self.assertRaises(Clash):
+                            read(rows, line)
+        self.assertGreater(min(seen.values()), 500)
+
+    def refused_alike(self, rows, kind):
+        for ask in (check_rows, empties, firsts, behinds, lambda rows: read(rows, ["a"])):
+            with self.assertRaises(kind):
+                ask(rows)
+
+    def hold_lists(self, rows):
+        self.assertEqual(empties(rows), empty_sorts(rows))
+        self.assertEqual(firsts(rows), sorted(words_to_begin(rows).items()))
+        self.assertEqual(behinds(rows), sorted(words_behind(rows).items()))
+
+    def hold_table(self, rows, answer):
+        uses = {}
+        for number, words in enumerate(words_to_use_rows(rows)):
+            for word in words:
+                uses.setdefault((rows[number][0], word), []).append(number)
+        clashing = sorted(place for place in uses if len(uses[place]) > 1)
+        if clashing:
+            self.assertEqual(answer[:3], ("clash",) + clashing[0])
+            for shown, number in zip(answer[3:], uses[clashing[0]][:2], strict=True):
+                shows_use(self, rows, shown, number, answer[2])
+        else:
+            self.assertEqual(answer, ("table", [place + tuple(uses[place]) for place in sorted(uses)]))
+
+    def hold_lines(self, rows, chance):
+        known = trees_up_to(self, rows, 7)
+        begun = sorted(beginnings_up_to(rows, known, 7))
+        signs = sorted({sign for left, right in rows for sign in right} | {rows[0][0], "q"})
+        for _ in range(30):
+            line = [sign for sign in chance.choice(begun)][:chance.randint(0, 6)]
+            if chance.random() < 0.6:
+                line[chance.randint(0, len(line)):] = chance.choices(signs, k=chance.randint(0, 6 - len(line)))
+            self.hold_line(rows, line[:6], answer_by_trees(rows, known, set(begun), tuple(line[:6])))
+
+    def hold_line(self, rows, line, expected):
+        answer = ask_unchanged(self, read, rows, line)
+        if answer[0] == "tree":
+            self.assertEqual(answer, expected)
+            return
+        self.assertEqual(answer[:2] + ([pair[0] for pair in answer[2]],), expected, (rows, line))
+        for word, told in answer[2]:
+            self.assertEqual((told + [""])[:answer[1] + 1], line[:answer[1]] + [word])
+            again = read(rows, told)
+            self.assertEqual(again[0], "tree")
+            self.assertEqual(parts_of(again[1])[0], told)
+            shows_use(self, rows, (again[1][1], again[1], []), again[1][1], (told + [""])[0])
 
 
 if __name__ == "__main__":
